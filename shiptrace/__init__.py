@@ -1,0 +1,1 @@
+"""Shiptrace: a delivery pipeline in which every character carries its origin."""

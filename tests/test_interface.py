@@ -1,0 +1,88 @@
+"""The interface: which functions there are, where they are defined, and what they are passed."""
+
+import importlib
+import inspect
+import unittest
+
+FUNCTIONS = {
+    "texts": {
+        "stamp": "(string, change, start=0)",
+        "signs_of": "(text)",
+        "find": "(text, wanted)",
+        "replace_all": "(text, wanted, new)",
+        "origin_runs": "(text)",
+    },
+    "patterns": {
+        "tokens_of": "(pattern)",
+        "matches": "(pattern, string)",
+        "deciding": "(patterns, string)",
+        "common_match": "(first, second)",
+    },
+    "expressions": {
+        "literals_of": "(expression)",
+        "references_of": "(expression)",
+        "shape_of": "(expression)",
+        "fill": "(shape, text)",
+        "stamp_expression": "(expression, change, start=0)",
+    },
+    "rewriting": {
+        "rewritings": "(expression)",
+        "normalize": "(expression)",
+    },
+    "hunks": {
+        "fits": "(hunks, size)",
+        "apply_hunks": "(text, hunks)",
+        "touch": "(first, second)",
+        "rebase_hunks": "(hunks, over)",
+        "merge_hunks": "(first, second)",
+        "invert_hunks": "(text, hunks)",
+        "compose_hunks": "(size, first, second)",
+        "index_before": "(size, hunks, index)",
+    },
+    "trees": {
+        "entry_of": "(pairs, name)",
+        "with_entry": "(pairs, name, value)",
+        "without_entry": "(pairs, name)",
+        "contents_of": "(tree, key)",
+        "characters_of": "(tree)",
+        "paths_under": "(tree, prefix)",
+        "differing_keys": "(old, new)",
+    },
+    "edits": {
+        "key_of": "(edit)",
+        "stamp_edits": "(edits, change)",
+        "introduced_by": "(edits)",
+        "first_inapplicable": "(tree, edits)",
+        "apply_edits": "(tree, edits)",
+        "invert_edits": "(tree, edits)",
+        "edits_conflict": "(first, second)",
+        "rebase_edits": "(edits, over)",
+    },
+    "trunk": {
+        "tree_at": "(trunk, revision)",
+        "rebase_to_head": "(trunk, revision, edits)",
+        "with_earlier": "(trunk, revision, commit)",
+        "revert_of": "(trunk, commit)",
+        "trunk_without": "(trunk, commit)",
+    },
+    "history": {
+        "locations_of": "(tree, change, index)",
+        "lifetime_of": "(trunk, change, index)",
+    },
+}
+
+
+class InterfaceTest(unittest.TestCase):
+
+    def test_functions_stand_where_the_interface_lists_them(self):
+        for name, functions in FUNCTIONS.items():
+            module = importlib.import_module("shiptrace." + name)
+            for word, signature in functions.items():
+                function = getattr(module, word)
+                self.assertTrue(inspect.isfunction(function), word)
+                self.assertEqual(function.__module__, "shiptrace." + name, word)
+                self.assertEqual(str(inspect.signature(function)), signature, word)
+
+
+if __name__ == "__main__":
+    unittest.main()
