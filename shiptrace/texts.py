@@ -48,3 +48,8 @@ def origin_runs(text):
         else:
             runs.append((change, index, 1))
     return tuple(runs)
+
+
+def each_once(values):
+    """Return the values without repetitions: of equal ones only the first one stays."""
+    return tuple({value: True for value in values})

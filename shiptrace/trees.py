@@ -77,9 +77,14 @@ def characters_of(tree):
     return tuple([character for _, text in texts_by_key(tree) for character in text])
 
 
+def files_under(files, prefix):
+    """Return the list of the pairs of files whose paths start with the prefix, in order."""
+    return [(path, text) for path, text in files if path.startswith(prefix)]
+
+
 def paths_under(tree, prefix):
     """Return the paths of the files that start with the prefix, in order."""
-    return tuple([path for path, _ in tree[0] if path.startswith(prefix)])
+    return tuple([path for path, _ in files_under(tree[0], prefix)])
 
 
 def differing_keys(old, new):

@@ -69,6 +69,47 @@ FUNCTIONS = {
         "locations_of": "(tree, change, index)",
         "lifetime_of": "(trunk, change, index)",
     },
+    "evaluation": {
+        "evaluate": "(expression, environment)",
+    },
+    "building": {
+        "build": "(tree, target)",
+        "environment_of": "(tree, seed=0)",
+    },
+    "graph": {
+        "dependencies_of": "(tree, target)",
+        "find_cycle": "(tree)",
+        "rank_of": "(tree, target)",
+        "build_order": "(tree, targets)",
+        "waves": "(tree, targets, workers)",
+    },
+    "traces": {
+        "trace_of": "(expression, environment)",
+        "is_valid": "(trace, expression, environment)",
+        "replay": "(trace, expression, environment)",
+    },
+}
+
+# For each class what its methods are passed; None stands for a property.
+CLASSES = {
+    "building": {
+        "Builder": {
+            "__init__": "(self, tree)",
+            "build": "(self, target)",
+            "active": None,
+            "__len__": "(self)",
+        },
+    },
+    "cache": {
+        "Cache": {
+            "__init__": "(self, size)",
+            "evaluate": "(self, expression, environment)",
+            "build": "(self, tree, targets)",
+            "copy": "(self)",
+            "__len__": "(self)",
+            "__iter__": "(self)",
+        },
+    },
 }
 
 
@@ -82,6 +123,21 @@ class InterfaceTest(unittest.TestCase):
                 self.assertTrue(inspect.isfunction(function), word)
                 self.assertEqual(function.__module__, "shiptrace." + name, word)
                 self.assertEqual(str(inspect.signature(function)), signature, word)
+
+    def test_classes_and_their_own_methods(self):
+        for name, classes in CLASSES.items():
+            module = importlib.import_module("shiptrace." + name)
+            for word, members in classes.items():
+                self.assertEqual(getattr(module, word).__module__, "shiptrace." + name, word)
+                for member, signature in members.items():
+                    self.check_member(vars(getattr(module, word))[member], signature, (word, member))
+
+    def check_member(self, member, signature, place):
+        if signature is None:
+            self.assertIsInstance(member, property, place)
+            self.assertIsNone(member.fset, place)
+        else:
+            self.assertEqual(str(inspect.signature(member)), signature, place)
 
 
 if __name__ == "__main__":
