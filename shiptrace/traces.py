@@ -67,7 +67,7 @@ def _character_at(address, literals, environment):
     return None if text is None or number >= len(text) else text[number]
 
 
-def true_read(read, literals, environment):
+def _true_read(read, literals, environment):
     """Return the read that is true in the place of this one, or None.
 
     It is true for an expression with these literal characters, in the environment.
@@ -86,14 +86,23 @@ def true_read(read, literals, environment):
     return None if character is None else ("char", read[1], character[0])
 
 
-def is_valid(trace, expression, environment):
-    """Return True if each read of the trace is true for the expression in the environment."""
+def first_untrue(trace, expression, environment):
+    """Return (index, recorded, current) for the first read that is not true, or None.
+
+    The current read is the one that is true in the place of the recorded one.
+    """
     reads, _ = trace
     literals = literals_of(expression)
-    for read in reads:
-        if true_read(read, literals, environment) != read:
-            return False
-    return True
+    for index in range(len(reads)):
+        current = _true_read(reads[index], literals, environment)
+        if current != reads[index]:
+            return index, reads[index], current
+    return None
+
+
+def is_valid(trace, expression, environment):
+    """Return True if each read of the trace is true for the expression in the environment."""
+    return first_untrue(trace, expression, environment) is None
 
 
 def replay(trace, expression, environment):

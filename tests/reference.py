@@ -170,6 +170,48 @@ def slow_trace(expression, environment):
     return reads, ("copy", tuple([cell[1] for cell in value])) if kind == "text" else (kind, value)
 
 
+def slow_character(address, expression, environment):
+    """Return the character to which the address refers, or None."""
+    files, targets, _ = environment
+    if address[0] == "literal":
+        text = [c for part in all_parts(expression) if part[0] == "literal" for c in part[1]]
+    elif address[0] == "file":
+        text = dict(files).get(address[1], ())
+    else:
+        kind, text = dict(targets).get(address[1], ("error", None))
+        text = text if kind == "text" else ()
+    return text[address[-1]] if address[-1] < len(text) else None
+
+
+def is_true(read, expression, environment):
+    files, targets, coins = environment
+    result = dict(targets).get(read[1], ("error", ("missing target", read[1])))
+    if read[0] == "file":
+        return read[1] in dict(files) and len(dict(files)[read[1]]) == read[2]
+    if read[0] == "missing":
+        return read[1] not in dict(files)
+    if read[0] == "list":
+        return [path for path, _ in files if path.startswith(read[1])] == list(read[2])
+    if read[0] == "target":
+        return result[0] == "text" and len(result[1]) == read[2]
+    if read[0] == "failed":
+        return result == ("error", read[2])
+    if read[0] == "coin":
+        return coins[read[1]] == read[2]
+    character = slow_character(read[1], expression, environment)
+    return character is not None and character[0] == read[2]
+
+
+def slow_replay(trace, expression, environment):
+    reads, (kind, value) = trace
+    if not all([is_true(read, expression, environment) for read in reads]):
+        return None
+    if kind == "error":
+        return ("error", value)
+    text = tuple([slow_character(address, expression, environment) for address in value])
+    return None if None in text else ("text", text)
+
+
 def slow_run(tree, expression, coins, active=()):
     """Return the result, the reads and all characters that are read, with repetitions."""
     built = []
@@ -216,6 +258,7 @@ def slow_environment(tree, seed=0):
     return tree[0], targets, tuple([int(digit) for digit in reversed(bin(8 + seed)[3:])])
 
 
+SEEDS = tuple(range(8))
 PATHS = ("a", "a/b", "b", "c.c")
 TARGETS = ("r", "s", "t", "u", "v")
 
@@ -288,3 +331,23 @@ def random_tree(rng, depth=3, acyclic=False):
         if rng.randrange(8):
             rules.append((name, random_expression(rng, depth, False, names)))
     return random_files(rng), tuple(rules), (), (), ()
+
+
+def random_whole_tree(rng, depth=3, acyclic=True):
+    """Return a tree that also has tests, which flip coins, and pages."""
+    files, rules, _, _, _ = random_tree(rng, depth, acyclic)
+    names = TARGETS + ("z",)
+    tests = [(name, random_expression(rng, depth, True, names)) for name in ("k", "l", "m") if rng.randrange(3)]
+    pages = []
+    for name in ("p", "q"):
+        if rng.randrange(3):
+            parts = [(("always",), rng.choice(names)) for _ in range(rng.randrange(3))]
+            pages.append((name, tuple(parts)))
+    return files, rules, tuple(tests), tuple(pages), ()
+
+
+def slow_run_test(tree, test, seed):
+    """Return (passes, flips, read) of a test of the tree under a seed."""
+    result, reads, characters = slow_run(tree, test, slow_environment(((), (), (), (), ()), seed)[2])
+    flips = [(read[1], read[2]) for read in reads if read[0] == "coin"]
+    return result[0] == "text" and result[1] != (), once(flips), once(characters)

@@ -88,6 +88,39 @@ FUNCTIONS = {
         "is_valid": "(trace, expression, environment)",
         "replay": "(trace, expression, environment)",
     },
+    "rebuilding": {
+        "status_of": "(old, new, target)",
+        "cause_of": "(old, new, target)",
+        "rebuild": "(old, new)",
+        "affected_targets": "(tree, keys)",
+    },
+    "owners": {
+        "owners_of": "(owners, key)",
+        "approval_counts": "(owners, author, key, person)",
+        "missing_approval": "(owners, author, keys, approvals)",
+        "minimal_reviewers": "(owners, author, keys, candidates)",
+        "required_reviewers": "(owners, author, keys, candidates)",
+        "blocking_reviewers": "(owners, author, keys, candidates)",
+        "has_direct_access": "(owners, group, key)",
+        "takeover_of": "(owners, group, key)",
+    },
+    "coins": {
+        "run_test": "(tree, name, seed)",
+        "test_paths": "(tree, name)",
+        "count_passes": "(tree, name)",
+        "decisive_coins": "(tree, name)",
+    },
+    "checks": {
+        "first_problem": "(tree, threshold)",
+        "all_problems": "(tree, threshold)",
+        "read_by_check": "(tree)",
+        "check_with": "(cache, tree, threshold)",
+    },
+    "merging": {
+        "process": "(trunk, waiting, threshold)",
+        "process_in_batches": "(trunk, waiting, threshold, batch_size, cache)",
+        "most_mergeable": "(trunk, waiting, threshold)",
+    },
 }
 
 # For each class what its methods are passed; None stands for a property.

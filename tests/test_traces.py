@@ -3,7 +3,7 @@
 import random
 import unittest
 
-from reference import all_parts, random_environment, random_expression, slow_evaluate, slow_trace
+from reference import is_true, random_environment, random_expression, slow_evaluate, slow_replay, slow_trace
 from shiptrace.traces import is_valid, replay, trace_of
 from support import is_plain, literal, stamped
 
@@ -112,48 +112,6 @@ class TraceTest(unittest.TestCase):
             self.assertEqual(trace, slow_trace(expression, environment), (expression, environment))
             self.assertIs(is_valid(trace, expression, environment), True)
             self.assertEqual(replay(trace, expression, environment), slow_evaluate(expression, environment)[0])
-
-
-def slow_character(address, expression, environment):
-    """Return the character to which the address refers, or None."""
-    files, targets, _ = environment
-    if address[0] == "literal":
-        text = [c for part in all_parts(expression) if part[0] == "literal" for c in part[1]]
-    elif address[0] == "file":
-        text = dict(files).get(address[1], ())
-    else:
-        kind, text = dict(targets).get(address[1], ("error", None))
-        text = text if kind == "text" else ()
-    return text[address[-1]] if address[-1] < len(text) else None
-
-
-def is_true(read, expression, environment):
-    files, targets, coins = environment
-    result = dict(targets).get(read[1], ("error", ("missing target", read[1])))
-    if read[0] == "file":
-        return read[1] in dict(files) and len(dict(files)[read[1]]) == read[2]
-    if read[0] == "missing":
-        return read[1] not in dict(files)
-    if read[0] == "list":
-        return [path for path, _ in files if path.startswith(read[1])] == list(read[2])
-    if read[0] == "target":
-        return result[0] == "text" and len(result[1]) == read[2]
-    if read[0] == "failed":
-        return result == ("error", read[2])
-    if read[0] == "coin":
-        return coins[read[1]] == read[2]
-    character = slow_character(read[1], expression, environment)
-    return character is not None and character[0] == read[2]
-
-
-def slow_replay(trace, expression, environment):
-    reads, (kind, value) = trace
-    if not all([is_true(read, expression, environment) for read in reads]):
-        return None
-    if kind == "error":
-        return ("error", value)
-    text = tuple([slow_character(address, expression, environment) for address in value])
-    return None if None in text else ("text", text)
 
 
 class ReplayTest(unittest.TestCase):
