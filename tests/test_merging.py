@@ -182,6 +182,12 @@ class ProcessTest(MergingTest):
             ("rejected", ("missing approval", "rule:c")),
         ))
 
+    def test_a_change_without_edits(self):
+        trunk = self.check((change(0, 1, approvals=()),), (("landed", 3),))
+        self.assertEqual(trunk[3], (0, ()))
+        broken = TRUNK + ((23, (("delete rule", "r"),)),)
+        self.check((change(0, 4),), (("rejected", ("broken page", "p")),), broken)
+
     def test_a_rejected_change_leaves_nothing(self):
         one = change(0, 3, ("set rule", "r", ("file", "m")), ("write", "b", "x"))
         two = change(1, 3, ("set rule", "r", ("optional file", "b")))
@@ -350,6 +356,12 @@ class MostMergeableTest(unittest.TestCase):
         test = change(0, 3, ("set test", "t", ("coin", 0, ("literal", "x"), ("literal", ""))))
         self.assertEqual(most_mergeable(TRUNK, (test,), 4), (0,))
         self.assertEqual(most_mergeable(TRUNK, (test,), 5), ())
+
+    def test_a_change_is_taken_once(self):
+        nothing = change(0, 3)
+        refused = change(1, 3, ("write", "z", "x"))
+        self.assertEqual(most_mergeable(TRUNK, (nothing, refused), 8), (0,))
+        self.assertEqual(most_mergeable(TRUNK, (refused, nothing), 8), (0,))
 
     def test_all_four(self):
         waiting = tuple([change(k, 3, ("write", "n" + str(k), "x")) for k in (3, 1, 2, 0)])
