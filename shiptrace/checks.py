@@ -21,19 +21,24 @@ def _problem_of_form(tree):
     return None if target is None else ("cycle", target)
 
 
-def _page_targets(tree):
-    """Return the list of the targets of all parts of all pages, in order."""
-    return [target for _, parts in tree[3] for _, target in parts]
+def page_targets(tree):
+    """Return the targets of all parts of all pages, in order."""
+    return tuple([target for _, parts in tree[3] for _, target in parts])
 
 
-def _broken_pages(tree, targets):
-    """Return the list of the problems with pages when the targets evaluate to these results."""
+def broken_pages(tree, targets):
+    """Return the list of the names of the broken pages when the targets evaluate to these results."""
     broken = []
     for name, parts in tree[3]:
         kinds = [result_in(targets, target)[0] for _, target in parts]
         if "error" in kinds:
-            broken.append(("broken page", name))
+            broken.append(name)
     return broken
+
+
+def read_for_pages(builder, tree):
+    """Return the list of the characters that are read in building the targets of all pages."""
+    return [character for target in page_targets(tree) for character in builder.attempt(target)[1]]
 
 
 def all_problems(tree, threshold):
@@ -42,8 +47,9 @@ def all_problems(tree, threshold):
     if problem is not None:
         return (problem,)
     _, targets, _ = environment_of(tree)
+    broken = [("broken page", name) for name in broken_pages(tree, targets)]
     failing = [("failing test", name) for name, _ in tree[2] if count_passes(tree, name) < threshold]
-    return tuple(_broken_pages(tree, targets) + failing)
+    return tuple(broken + failing)
 
 
 def first_problem(tree, threshold):
@@ -57,10 +63,7 @@ def read_by_check(tree):
     if _problem_of_form(tree) is not None:
         return ()
     builder = Builder(tree)
-    characters = []
-    for target in _page_targets(tree):
-        _, read = builder.attempt(target)
-        characters.extend(read)
+    characters = read_for_pages(builder, tree)
     for _, test in tree[2]:
         for seed in SEEDS:
             _, _, read = run_with(builder, test, seed)
@@ -87,11 +90,11 @@ def check_with(cache, tree, threshold):
     if problem is not None:
         return problem, ()
     referenced = [name for _, test in tree[2] for name in references_of(test)[0]]
-    targets, built = cache.build(tree, tuple(_page_targets(tree) + referenced))
+    targets, built = cache.build(tree, page_targets(tree) + tuple(referenced))
     executed = [("target", name) for name in built]
-    broken = _broken_pages(tree, targets)
+    broken = broken_pages(tree, targets)
     if broken:
-        return broken[0], tuple(executed)
+        return ("broken page", broken[0]), tuple(executed)
     for name, test in tree[2]:
         passes, many = _run_with_cache(cache, tree, targets, test)
         executed.extend([("test", name)] * many)

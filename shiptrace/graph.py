@@ -1,5 +1,6 @@
 """Which targets depend on which, and the order in which they are built."""
 
+from shiptrace.chains import first_endless, ranks_of
 from shiptrace.errors import DependencyCycle, NoSuchTarget
 from shiptrace.expressions import references_of
 from shiptrace.trees import entry_of
@@ -12,41 +13,21 @@ def dependencies_of(tree, target):
     return tuple([name for name in names if entry_of(tree[1], name) is not None])
 
 
-def _ranks_of(tree):
-    """Return the ranks of those targets that do not lead into a cycle, by name."""
-    left = {name: dependencies_of(tree, name) for name, _ in tree[1]}
-    ranks = {}
-    rank = 0
-    ready = [name for name in left if not left[name]]
-    while ready:
-        for name in ready:
-            ranks[name] = rank
-            del left[name]
-        rank += 1
-        ready = [name for name in left if all([other in ranks for other in left[name]])]
-    return ranks
-
-
-def _first_without(ranks, tree):
-    """Return the first target that has no rank, or None."""
-    for name, _ in tree[1]:
-        if name not in ranks:
-            return name
-    return None
+def _links_of(tree):
+    return {name: dependencies_of(tree, name) for name, _ in tree[1]}
 
 
 def find_cycle(tree):
     """Return the cycle target of the tree, or None."""
-    return _first_without(_ranks_of(tree), tree)
+    return first_endless(_links_of(tree))
 
 
 def _checked_ranks(tree):
     """Return the ranks of all targets that have rules; raise DependencyCycle."""
-    ranks = _ranks_of(tree)
-    target = _first_without(ranks, tree)
+    target = find_cycle(tree)
     if target is not None:
         raise DependencyCycle(target)
-    return ranks
+    return ranks_of(_links_of(tree))
 
 
 def rank_of(tree, target):
