@@ -29,15 +29,20 @@ def _considered(trunk, head, change):
     return None, (number, rebased)
 
 
-def process(trunk, waiting, threshold):
-    """Process the changes one after another; return the trunk and their outcomes."""
+def process_with_trees(trunk, waiting, threshold):
+    """Process the changes one after another; return the trunk, their outcomes and the checked trees.
+
+    A tree is checked for each change that has its approvals and conflicts with no commit.
+    """
     landed = trunk
     head = tree_at(trunk, len(trunk))
     outcomes = []
+    checked = []
     for change in waiting:
         reason, commit = _considered(landed, head, change)
         if reason is None:
             tree = apply_edits(head, commit[1])
+            checked.append(tree)
             reason = first_problem(tree, threshold)
         if reason is None:
             outcomes.append(("landed", len(landed)))
@@ -45,7 +50,13 @@ def process(trunk, waiting, threshold):
             head = tree
         else:
             outcomes.append(("rejected", reason))
-    return landed, tuple(outcomes)
+    return landed, tuple(outcomes), tuple(checked)
+
+
+def process(trunk, waiting, threshold):
+    """Process the changes one after another; return the trunk and their outcomes."""
+    landed, outcomes, _ = process_with_trees(trunk, waiting, threshold)
+    return landed, outcomes
 
 
 def _apply_batch(trunk, batch):

@@ -121,6 +121,55 @@ FUNCTIONS = {
         "process_in_batches": "(trunk, waiting, threshold, batch_size, cache)",
         "most_mergeable": "(trunk, waiting, threshold)",
     },
+    "conditions": {
+        "holds": "(condition, on)",
+        "flags_of": "(condition)",
+        "first_difference": "(first, second)",
+        "fix_in_condition": "(condition, flag, value)",
+        "relevant_flags": "(condition)",
+        "canonical_condition": "(condition)",
+    },
+    "rings": {
+        "bucket_of": "(user, salt)",
+        "ring_of": "(bounds, user, salt)",
+        "users_below": "(salt, limit, first, count)",
+        "next_salt": "(bounds, user, salt, most)",
+    },
+    "flags": {
+        "first_cyclic_flag": "(flags)",
+        "representatives_of": "(flags)",
+        "enabled_flags": "(flags, user)",
+        "distinguishing_user": "(flags, first, second)",
+        "audience_of": "(flags, condition)",
+    },
+    "pages": {
+        "shown_parts": "(parts, on)",
+        "fix_flag": "(parts, flag, value)",
+        "variants_of": "(flags, parts)",
+        "affected_user": "(flags, flag, parts)",
+    },
+    "releases": {
+        "make_release": "(tree, revision)",
+        "make_release_with": "(cache, tree, revision)",
+        "read_for_release": "(tree)",
+        "release_text": "(release)",
+        "bill_of": "(release)",
+    },
+    "deltas": {
+        "encode_delta": "(old, new)",
+        "apply_delta": "(old, delta)",
+        "compose_deltas": "(first, second)",
+    },
+    "rollout": {
+        "release_for": "(bounds, states, user)",
+    },
+    "provenance": {
+        "copied_from": "(tree, target, index)",
+        "path_of": "(tree, target, index)",
+        "is_path": "(tree, steps)",
+        "copies_of": "(tree, change, index)",
+        "influences_of": "(tree, target)",
+    },
 }
 
 # For each class what its methods are passed; None stands for a property.
@@ -141,6 +190,72 @@ CLASSES = {
             "copy": "(self)",
             "__len__": "(self)",
             "__iter__": "(self)",
+        },
+    },
+    "rollout": {
+        "Rollout": {
+            "__init__": "(self, bounds)",
+            "cut": "(self)",
+            "promote": "(self, release)",
+            "block": "(self, release)",
+            "release_of": "(self, user)",
+            "states": None,
+            "table": None,
+        },
+    },
+    "delivery": {
+        "Delivery": {
+            "__init__": "(self, bounds, *, min_good_users=0, error_budget=1)",
+            "cut": "(self)",
+            "promote": "(self, release)",
+            "block": "(self, release)",
+            "serve": "(self, user, page, numbers)",
+            "report": "(self, impression, good)",
+            "release_of": "(self, user)",
+            "good_users": "(self, release, ring)",
+            "bad_reports": "(self, release)",
+            "promotable": "(self)",
+            "states": None,
+            "table": None,
+            "impressions": None,
+        },
+    },
+    "pipeline": {
+        "Config": {
+            "__init__": (
+                "(self, members, *, threshold=8, rings=(16,), min_good_users=0, error_budget=1, batch_size=1, "
+                "cache_size=8)"
+            ),
+        },
+        "Pipeline": {
+            "__init__": "(self, config)",
+            "execute": "(self, command)",
+            "state": "(self)",
+            "head": None,
+            "journal": None,
+            "tree_of": "(self, revision)",
+            "release_of": "(self, user)",
+            "preview": "(self, count)",
+            "served": "(self, impression)",
+            "record": "(self, impression, index)",
+            "check_record": "(self, impression, index, record)",
+            "outputs": "(self)",
+            "rebuilt": None,
+            "cached": None,
+            "executed": None,
+        },
+    },
+    "plain": {
+        "PlainPipeline": {
+            "__init__": "(self, config)",
+            "execute": "(self, command)",
+            "state": "(self)",
+            "head": None,
+            "journal": None,
+            "tree_of": "(self, revision)",
+            "release_of": "(self, user)",
+            "served": "(self, impression)",
+            "characters_read": "(self)",
         },
     },
 }
@@ -164,6 +279,11 @@ class InterfaceTest(unittest.TestCase):
                 self.assertEqual(getattr(module, word).__module__, "shiptrace." + name, word)
                 for member, signature in members.items():
                     self.check_member(vars(getattr(module, word))[member], signature, (word, member))
+
+    def test_the_class_method(self):
+        pipeline = importlib.import_module("shiptrace.pipeline").Pipeline
+        self.assertIsInstance(vars(pipeline)["replayed"], classmethod)
+        self.assertEqual(str(inspect.signature(pipeline.replayed)), "(config, journal)")
 
     def check_member(self, member, signature, place):
         if signature is None:

@@ -173,6 +173,46 @@ class LanguageTest(unittest.TestCase):
                 word = decorator.attr if isinstance(decorator, ast.Attribute) else decorator.id
                 self.assertIn(word, ("property", "setter", "staticmethod", "classmethod"), place)
 
+    def members(self):
+        """Return for each class its bases, its methods, its properties and the attributes of its objects."""
+        found = {}
+        for _, node in self.nodes(ast.ClassDef):
+            methods = [part for part in node.body if isinstance(part, ast.FunctionDef)]
+            properties = [part.name for part in methods if "property" in [ast.unparse(d) for d in part.decorator_list]]
+            stored = []
+            for part in ast.walk(node):
+                if isinstance(part, ast.Attribute) and isinstance(part.ctx, ast.Store) and part.value.id == "self":
+                    stored.append(part.attr)
+            names = [part.name for part in methods if part.name not in properties]
+            found[node.name] = ([ast.unparse(base) for base in node.bases], names, properties, stored)
+        return found
+
+    def test_no_name_is_a_method_and_an_attribute(self):
+        members = self.members()
+        all_methods = [name for _, methods, _, _ in members.values() for name in methods]
+        all_stored = [name for _, _, _, stored in members.values() for name in stored]
+        for word, (bases, methods, properties, stored) in members.items():
+            self.assertEqual(len(methods + properties), len(set(methods + properties)), word)
+            for name in properties:
+                self.assertNotIn(name, all_methods, word)
+                self.assertNotIn(name, all_stored, word)
+            for base in [word] + [base for base in bases if base in members]:
+                self.assertFalse(set(methods) & set(members[base][3]), word)
+                self.assertFalse(set(stored) & set(members[base][1]), word)
+
+    def test_attributes_that_are_read_are_stored(self):
+        members = self.members()
+        known = set([name for _, *groups in members.values() for group in groups for name in group])
+        for place, node in self.nodes(ast.Attribute):
+            if isinstance(node.ctx, ast.Load) and node.attr not in METHODS:
+                self.assertIn(node.attr, known, place)
+
+    def test_what_stands_behind_a_star(self):
+        for place, node in self.nodes(ast.Call):
+            for argument in node.args:
+                if isinstance(argument, ast.Starred):
+                    self.assertIsInstance(argument.value, ast.Name, place)
+
     def test_module_level(self):
         for name, tree in self.trees.items():
             bound = []
