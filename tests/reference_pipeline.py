@@ -3,7 +3,7 @@
 What a tree, a trunk and a check are is tested elsewhere, so the functions for these are used.
 """
 
-from reference import all_parts, look, once, random_expression, slow_build, slow_environment, slow_trace
+from reference import look, once, random_expression, slow_build, slow_environment, slow_trace
 from reference_delivery import Refused, SlowDelivery
 from reference_flags import random_clause, random_condition, slow_cycle_flag, slow_enabled, slow_shown
 from shiptrace.checks import first_problem, read_by_check
@@ -213,10 +213,6 @@ def written(expression):
     return tuple([written(part) if isinstance(part, tuple) else part for part in expression])
 
 
-def uses(expression, name):
-    return [part for part in all_parts(expression) if part == ("target", name)]
-
-
 MEMBERS = ("ann", "bob", "cid")
 PATHS = ("a", "a/b", "b", "c.c")
 BASE = (
@@ -267,7 +263,9 @@ def random_edit(rng, tree):
 
 def random_proposal(rng, pipe):
     commits = len(pipe.state()[2])
-    base = rng.choice((commits, commits, commits, max(0, commits - 1), max(0, commits - 3), commits + (rng.random() < 0.1)))
+    base = max(0, commits - rng.choice((0, 0, 0, 0, 1, 3)))
+    if rng.randrange(30) == 0:
+        base = commits + 1
     tree = tree_at(pipe.state()[2], min(base, commits))
     edits = tuple([random_edit(rng, tree) for _ in range(rng.choice((1, 1, 1, 2, 3)))])
     return ("propose", rng.choice(MEMBERS + MEMBERS + ("dee",)), base, edits)

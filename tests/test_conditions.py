@@ -292,7 +292,7 @@ class RandomConditionsTest(unittest.TestCase):
     def test_against_slow_versions(self):
         rng = random.Random(160)
         for _ in range(1500):
-            condition, other = random_condition(rng, 5), random_condition(rng, 3)
+            condition = random_condition(rng, 5)
             on = tuple([name for name in FLAGS if rng.randrange(2)])
             self.assertIs(holds(condition, on), slow_holds(condition, on))
             self.assertEqual(flags_of(condition), slow_flags_of(condition))

@@ -6,7 +6,7 @@ import unittest
 from shiptrace.errors import InvalidHunks, NoSuchCharacter
 from shiptrace.hunks import apply_hunks, compose_hunks, fits, index_before, invert_hunks
 from shiptrace.hunks import merge_hunks, rebase_hunks, touch
-from support import is_plain, signs, stamped
+from support import is_plain, stamped
 
 
 def slow_fits(hunks, size):
